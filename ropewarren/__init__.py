@@ -1,0 +1,1 @@
+"""Ropewarren: a knotted rope pulled through a house of branching pipes."""
