@@ -40,10 +40,7 @@ def with_flaps(*flaps, length=100):
 def random_house(dice):
     """Any tree of rooms, pipes in any order, with narrow places and flaps in some of them."""
     rooms = dice.randint(1, 16)
-    names = list(range(rooms))
-    dice.shuffle(names)
-    ends = [tuple(sorted((names[at], names[dice.randrange(at)]))) for at in range(1, rooms)]
-    dice.shuffle(ends)
+    ends = tree_ends(dice, rooms)
     narrows, flaps = 12, 6
     pipes = []
     for one, other in ends:
@@ -94,15 +91,72 @@ def spoilt(dice, part):
     return dice.choice(choices + [dice.choice(OTHERS)])
 
 
-def spoilt_house(dice):
-    """A house with some part changed, left out or put in: sometimes it is still one."""
-    house = random_house(dice)
-    for _ in range(dice.choice((1, 1, 1, 2))):
-        path_to = dice.choice(list(parts_of(house)))
+def bent(dice, thing, changes=(1, 1, 1, 2)):
+    """Nested tuples with some parts changed, left out or put in: sometimes they are still what they were."""
+    for _ in range(dice.choice(changes)):
+        path_to = dice.choice(list(parts_of(thing)))
         if path_to:
-            house = put(house, path_to, spoilt(dice, part_at(house, path_to)))
-    return house
+            thing = put(thing, path_to, spoilt(dice, part_at(thing, path_to)))
+    return thing
+
+
+def spoilt_house(dice):
+    return bent(dice, random_house(dice))
 
 
 def dice_of(seed):
     return random.Random(seed)
+
+
+def tree_ends(dice, rooms):
+    """The pairs of rooms that the pipes of any tree join, in any order."""
+    names = list(range(rooms))
+    dice.shuffle(names)
+    ends = [tuple(sorted((names[at], names[dice.randrange(at)]))) for at in range(1, rooms)]
+    dice.shuffle(ends)
+    return ends
+
+
+def furnished(dice, ends, lengths, narrows, flaps, widths=(1, 2, 3)):
+    """A house of pipes with these ends, with at most so many narrow places and flaps strewn over them."""
+    spots = [(number, at) for number, length in enumerate(lengths) for at in spots_of(dice, 1, length)]
+    narrow = dice.sample(spots, min(narrows, len(spots)))
+    spots = [(number, at) for number, length in enumerate(lengths) for at in spots_of(dice, 0, length)]
+    hung = dice.sample(spots, min(flaps, len(spots)))
+    return (len(ends) + 1, tuple(
+        (
+            one, other, lengths[number],
+            tuple((at, dice.choice(widths)) for pipe_of, at in sorted(narrow) if pipe_of == number),
+            tuple((at, dice.choice((1, -1))) for pipe_of, at in sorted(hung) if pipe_of == number),
+        )
+        for number, (one, other) in enumerate(ends)
+    ))
+
+
+def spots_of(dice, low, length):
+    """Ats of a pipe: all of a short one, some of a long one."""
+    if length <= 30:
+        return range(low, length)
+    return sorted({low, low + 1, length - 1, length // 2, dice.randrange(low, length), dice.randrange(low, length)})
+
+
+def small_house(dice, rooms=(1, 6), longest=4, narrows=3, flaps=2):
+    """A house that can be gone through place by place."""
+    ends = tree_ends(dice, dice.randint(*rooms))
+    lengths = [dice.randint(1, longest) for _ in ends]
+    return furnished(dice, ends, lengths, dice.randint(0, narrows), dice.randint(0, flaps))
+
+
+def far_house(dice, rooms=16, narrows=12, flaps=6, longest=LONG):
+    """A house that nobody could go through step by step."""
+    ends = tree_ends(dice, rooms)
+    lengths = [dice.choice((longest, dice.randint(1, longest), dice.randint(1, longest), 1, 2)) for _ in ends]
+    return furnished(dice, ends, lengths, narrows, flaps)
+
+
+def knots_for(dice, length, most=4, sizes=(1, 2, 3, 4)):
+    """Knots of a rope of that length."""
+    many = dice.randint(0, most)
+    behinds = sorted({0, length} | {dice.randint(0, length) for _ in range(many)})
+    chosen = sorted(dice.sample(behinds, min(many, len(behinds))))
+    return tuple((behind, dice.choice(sizes)) for behind in chosen)
