@@ -1,6 +1,6 @@
 """Places next to one another, and the one row between two places."""
 
-from ropewarren.plans import Plan, gap_of, place_along, places_beside, row_of
+from ropewarren.plans import Plan, gap_of, is_on_row, place_between, places_beside
 
 
 def distance_of(house, one, other):
@@ -10,10 +10,7 @@ def distance_of(house, one, other):
 
 def place_on(house, one, other, steps):
     """Tell the place that stands so many steps from one place on the row to another."""
-    if steps == 0:
-        return one
-    plan = Plan(house)
-    return place_along(plan, row_of(plan, one, other), steps)
+    return place_between(Plan(house), one, other, steps)
 
 
 def next_to(house, place):
@@ -23,5 +20,4 @@ def next_to(house, place):
 
 def is_between(house, one, other, place):
     """Tell whether a place lies on the row between two places, their ends counted in."""
-    plan = Plan(house)
-    return gap_of(plan, one, place) + gap_of(plan, place, other) == gap_of(plan, one, other)
+    return is_on_row(Plan(house), one, other, place)

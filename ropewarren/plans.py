@@ -90,15 +90,18 @@ def gap_of(plan, one, other):
     return shortest(plan, one, other)[0]
 
 
+def is_on_row(plan, one, other, place):
+    """Tell whether a place lies on the row between two places, their ends counted in."""
+    return gap_of(plan, one, place) + gap_of(plan, place, other) == gap_of(plan, one, other)
+
+
 def room_at(plan, pipe, room):
     """Tell at which at of a pipe one of its rooms is."""
     return 0 if plan.pipes[pipe][0] == room else plan.pipes[pipe][2]
 
 
 def row_of(plan, one, other):
-    """Tell the row from place to place as pieces (pipe, begin, stop): stretches of ats, one behind another."""
-    if one == other:
-        return []
+    """Tell the row from a place to another one as pieces (pipe, begin, stop): stretches of ats, one behind another."""
     if are_in_one_pipe(one, other):
         return [(one[0], one[1], other[1])]
     steps, here, last = shortest(plan, one, other)
@@ -133,3 +136,10 @@ def place_along(plan, pieces, steps):
             return place_at(plan, piece[0], at_along(piece, left))
         left -= length_of(piece)
     return place_at(plan, pieces[-1][0], at_along(pieces[-1], left))
+
+
+def place_between(plan, one, other, steps):
+    """Tell the place so many steps from one place on the row to another, perhaps the same one."""
+    if steps == 0:
+        return one
+    return place_along(plan, row_of(plan, one, other), steps)

@@ -58,7 +58,11 @@ class Brute:
         return len(self.row(one, other)) - 1
 
     def depth(self, place, beside):
+        """The greatest distance to any place that hangs on a place by one next to it."""
         return max(self.distance(place, other) for other in self.places if beside in self.row(place, other))
+
+    def long_arms(self, length, place):
+        return tuple(sorted(beside for beside in self.beside[place] if self.depth(place, beside) >= length))
 
     # Stands and steps, bit by bit.
 
@@ -174,3 +178,83 @@ class Brute:
                     far[there] = far[stand] + 1
                     todo.append(there)
         return far
+
+    def come_halts(self, rope, start, wish):
+        """The start and all halts that halts lead to."""
+        found = {start}
+        todo = [start]
+        while todo:
+            for end, tail, head, steps in self.halts(rope, todo.pop(), wish):
+                if (tail, head) not in found:
+                    found.add((tail, head))
+                    todo.append((tail, head))
+        return found
+
+    def stretches(self, stands, end):
+        """The longest stretches (pipe, low, high) of where an end is."""
+        places = {stand[end] for stand in stands}
+        rows = []
+        for number in range(len(self.house[1])):
+            low = None
+            line = self.line(number)
+            for at, place in enumerate(line + [None]):
+                if place in places and low is None:
+                    low = at
+                if place not in places and low is not None:
+                    rows.append((number, low, at - 1))
+                    low = None
+        return tuple(rows)
+
+    def under_always(self, stands, start):
+        """The ends of what lies under the rope in all stands, from the start's tail on."""
+        kept = [place for place in self.row(*start) if all(place in self.bits(stand) for stand in stands)]
+        return (kept[0], kept[-1]) if kept else None
+
+    # Papers, looked over.
+
+    def table(self, rope, start, wish, thing):
+        """The heights of a table, None if it is none: what [14] says, clause by clause."""
+        if type(thing) is not tuple or any(type(row) is not tuple or len(row) != 3 for row in thing):
+            return None
+        for tail, head, height in thing:
+            if not is_places(self, (tail, head)) or not self.is_stand(rope, tail, head):
+                return None
+            if type(height) is not int or height < 0:
+                return None
+        heights = {(tail, head): height for tail, head, height in thing}
+        if list(thing) != sorted(thing) or len(heights) != len(thing) or heights.get(start) != 0:
+            return None
+        for stand, height in heights.items():
+            for end, tail, head, steps in self.halts(rope, stand, wish):
+                if (tail, head) not in heights or heights[tail, head] > height + steps:
+                    return None
+        return heights
+
+    def verdict(self, rope, start, wish, thing):
+        """Whether anything is a verdict as [17] says."""
+        if type(thing) is not tuple or not thing or type(thing[0]) is not str:
+            return False
+        if thing[0] == "way" and len(thing) == 3:
+            if not is_legs(self, thing[1]):
+                return False
+            steps, heights = self.way(rope, start, wish, thing[1]), self.table(rope, start, wish, thing[2])
+            return steps is not None and heights is not None and wish in heights and heights[wish] == steps
+        if thing[0] == "bar" and len(thing) == 2:
+            heights = self.table(rope, start, wish, thing[1])
+            return heights is not None and wish not in heights
+        return False
+
+
+def is_places(brute, things):
+    """Whether all things are places of the house, by their one name, with whole numbers."""
+    return all(
+        type(thing) is tuple and all(type(number) is int for number in thing) and thing in brute.beside
+        for thing in things
+    )
+
+
+def is_legs(brute, thing):
+    """Whether anything is a tuple of pairs of an end and a place of the house."""
+    if type(thing) is not tuple or any(type(leg) is not tuple or len(leg) != 2 for leg in thing):
+        return False
+    return all(type(end) is int and end in (TAIL, HEAD) and is_places(brute, (place,)) for end, place in thing)

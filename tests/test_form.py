@@ -14,6 +14,10 @@ DEFINED = {
     "ropes": ("is_rope", "is_stand", "bit_at"),
     "pulls": ("pulled", "way_holds", "steps_of"),
     "halts": ("halts",),
+    "tables": ("table_holds",),
+    "verdicts": ("verdict", "verdict_holds", "distance"),
+    "comes": ("come", "heads", "tails", "is_stuck", "under_always"),
+    "depths": ("depth", "long_arms", "longest"),
     "errors": (
         "WarrenError", "NoHouse", "NoRope", "NoStand", "NoBack", "NoText", "Flapped", "NoEnd", "NoPlace", "NoPipe",
         "NoAt", "NoRoom", "NoBy", "NoBit", "NoSize", "NoWay", "NoKnot", "NoName", "Twice", "Full", "Back", "Stuck",

@@ -3,12 +3,13 @@
 import copy
 import unittest
 
-from brute import HEAD, TAIL, Brute
+from brute import HEAD, TAIL, is_legs
 from far import any_stand, room_beyond
+from near import small_stands
 from ropewarren.errors import WarrenError
 from ropewarren.places import distance_of, place_on
 from ropewarren.pulls import pulled, steps_of, way_holds
-from samples import LONG, OTHERS, bent, dice_of, far_house, knots_for, pipe, small_house, star
+from samples import LONG, OTHERS, bent, dice_of, far_house, pipe, star
 
 
 def legs_from(brute, rope, stand):
@@ -32,29 +33,6 @@ def any_way(dice, brute, rope, stand, most=5):
         leg, stand = dice.choice(rows)
         legs.append(leg)
     return tuple(legs), stand
-
-
-def is_legs(brute, thing):
-    """Whether anything is a tuple of pairs of an end and a place of the house."""
-    if type(thing) is not tuple or any(type(leg) is not tuple or len(leg) != 2 for leg in thing):
-        return False
-    return all(
-        type(end) is int and end in (TAIL, HEAD) and type(place) is tuple
-        and all(type(number) is int for number in place) and place in brute.beside
-        for end, place in thing
-    )
-
-
-def samples_of(seed, many, **kinds):
-    dice = dice_of(seed)
-    for _ in range(many):
-        house = small_house(dice, rooms=(2, 6), **kinds)
-        brute = Brute(house)
-        length = dice.randint(1, 5)
-        rope = (length, knots_for(dice, length, 2))
-        stands = brute.stands(rope)
-        for start in dice.sample(stands, min(4, len(stands))):
-            yield dice, house, brute, rope, start, stands
 
 
 class ByHand(unittest.TestCase):
@@ -135,7 +113,7 @@ class Small(unittest.TestCase):
 
     def test_ways_and_bent_ones(self):
         answers = {True: 0, False: 0}
-        for dice, house, brute, rope, start, stands in samples_of(19, 120):
+        for dice, house, brute, rope, start, stands in small_stands(19, 120):
             way, wish = any_way(dice, brute, rope, start)
             self.assertIs(way_holds(house, rope, start, wish, way), True)
             self.assertEqual(steps_of(house, rope, start, way), brute.way(rope, start, wish, way))
@@ -150,7 +128,7 @@ class Small(unittest.TestCase):
 
     def test_any_legs(self):
         seen = {True: 0, False: 0}
-        for dice, house, brute, rope, start, stands in samples_of(20, 150):
+        for dice, house, brute, rope, start, stands in small_stands(20, 150):
             for _ in range(10):
                 legs = tuple(
                     (dice.choice((TAIL, HEAD)), dice.choice(brute.places)) for _ in range(dice.randint(1, 2))
@@ -165,7 +143,7 @@ class Small(unittest.TestCase):
         self.assertGreater(min(seen.values()), 300, seen)
 
     def test_without_flaps_ways_can_be_taken_back(self):
-        for dice, house, brute, rope, start, stands in samples_of(21, 80, flaps=0):
+        for dice, house, brute, rope, start, stands in small_stands(21, 80, flaps=0):
             way, wish = any_way(dice, brute, rope, start)
             stand, back = start, []
             for end, place in way:
