@@ -9,6 +9,11 @@ from ropewarren.wholes import HEAD, TAIL
 def come(house, rope, start):
     """Tell how many stands can be come to from one, itself counted in."""
     stands, runs = all_runs(Plan(house), rope, start)
+    return how_many(stands, runs)
+
+
+def how_many(stands, runs):
+    """Tell how many stands there are among halts and within the runs between them."""
     stretches = []
     for stand in stands:
         if not is_at_room(stand):
@@ -101,8 +106,13 @@ def under_always(house, rope, start):
     so halts are enough.
     """
     plan = Plan(house)
+    return row_under_all(plan, start, all_runs(plan, rope, start)[0])
+
+
+def row_under_all(plan, start, stands):
+    """Tell the part of the row under the rope at the start that lies under it in all these stands, None for none."""
     row = start
-    for stand in all_runs(plan, rope, start)[0]:
+    for stand in stands:
         row = common_row(plan, row, stand)
         if row is None:
             return None

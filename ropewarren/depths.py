@@ -30,10 +30,19 @@ def long_arms(house, length, place):
 
 def longest(house):
     """Tell the length of the longest rope for which a lot turns, 0 where there is none."""
+    refuse_flaps(house)
+    return longest_turning(Plan(house))
+
+
+def refuse_flaps(house):
+    """Refuse a house with flaps."""
     if any([pipe[4] for pipe in house[1]]):
         raise Flapped()
-    plan = Plan(house)
-    return max([third_depth(plan, room) for room in range(house[0])])
+
+
+def longest_turning(plan):
+    """Tell the length of the longest rope to which some room has three long arms, 0 where there is none."""
+    return max([third_depth(plan, room) for room in range(len(plan.doors))])
 
 
 def third_depth(plan, room):

@@ -1,17 +1,23 @@
-"""All that can be come to from a start, gone through from halt to halt."""
+"""All that can be come to, gone through from halt to halt, and the legs by which it is come to."""
 
 from ropewarren.runs import runs_of
 
 
 def fewest_steps(plan, rope, start, wish):
-    """Tell (heights, before) of all halts that can be come to, and the start.
+    """Tell (heights, before) of all halts that can be come to, and the start, as spread tells them."""
+    return spread(plan, rope, {start: 0}, wish)
 
-    heights has the fewest steps to each; before has, but for the start, the
-    (stand, end) from which, and by which end, each is come to in so few.
+
+def spread(plan, rope, starts, wish):
+    """Tell (heights, before) of all halts that can be come to from starts, which have heights, and the starts.
+
+    heights has the least height of each, steps and start's height together;
+    before has, of those that are come to from others, the (stand, end) from
+    which, and by which end, each is come to in so few.
     """
-    heights = {start: 0}
+    heights = {start: starts[start] for start in starts}
     before = {}
-    waiting = [(0, start)]
+    waiting = sorted([(starts[start], start) for start in starts], reverse=True)
     while waiting:
         height, stand = waiting.pop()
         # A row of a stand that was come to by fewer steps in the meantime has nothing more to tell.
@@ -35,6 +41,32 @@ def put_in(waiting, row):
         else:
             high = middle
     waiting.insert(low, row)
+
+
+def legs_back(before, stand):
+    """Tell (start, legs): the start from which a stand was come to, and a leg for each halt on the way."""
+    legs = []
+    here = stand
+    while here in before:
+        earlier, end = before[here]
+        legs.append((end, here[end]))
+        here = earlier
+    return here, legs[::-1]
+
+
+def joined(legs):
+    """Tell a way of legs that lead on: an end that is pulled on by the next leg, too, needs that one alone."""
+    way = []
+    for leg in legs:
+        if way and way[-1][0] == leg[0]:
+            way.pop()
+        way.append(leg)
+    return tuple(way)
+
+
+def leads_to(plan, rope, start, wish):
+    """Tell whether there is a way from start to wish."""
+    return wish in fewest_steps(plan, rope, start, wish)[0]
 
 
 def all_runs(plan, rope, start):

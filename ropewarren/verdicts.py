@@ -3,7 +3,7 @@
 from ropewarren.errors import Barred
 from ropewarren.plans import Plan
 from ropewarren.pulls import way_steps
-from ropewarren.searches import fewest_steps
+from ropewarren.searches import fewest_steps, joined, legs_back
 from ropewarren.tables import held_heights
 from ropewarren.tuples import is_tuple_of
 
@@ -15,26 +15,13 @@ def verdict(house, rope, start, wish):
     """Tell ("way", way, table), some way of the fewest steps, or ("bar", table), a table without the wish."""
     heights, before = fewest_steps(Plan(house), rope, start, wish)
     if wish in heights:
-        return (WAY, way_back(before, start, wish), table_of(heights))
+        return (WAY, joined(legs_back(before, wish)[1]), table_of(heights))
     return (BAR, table_of(heights))
 
 
 def table_of(heights):
     """Tell the table in which stands have these heights."""
     return tuple(sorted([(stand[0], stand[1], heights[stand]) for stand in heights]))
-
-
-def way_back(before, start, wish):
-    """Tell the way to the wish that was found, from each stand back to the one before it."""
-    legs = []
-    stand = wish
-    while stand != start:
-        earlier, end = before[stand]
-        # An end that is pulled on by the next leg, too, goes straight on: that one leg does for both.
-        if not legs or legs[-1][0] != end:
-            legs.append((end, stand[end]))
-        stand = earlier
-    return tuple(legs[::-1])
 
 
 def verdict_holds(house, rope, start, wish, thing):

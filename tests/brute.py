@@ -152,6 +152,19 @@ class Brute:
             stand = told[1]
         return steps if stand == wish else None
 
+    def trail(self, rope, start, legs):
+        """All stands that legs go through, step by step, the start first; None if a step isn't let."""
+        stands = [start]
+        for end, place in legs:
+            row = self.row(stands[-1][end], place)
+            for there in row[1:]:
+                if there not in self.free(stands[-1], end):
+                    return None
+                stands.append(self.let(rope, stands[-1], end, there))
+                if stands[-1] is None:
+                    return None
+        return stands
+
     # Halts, and all that can be come to.
 
     def halts(self, rope, stand, wish):

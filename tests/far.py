@@ -1,7 +1,8 @@
 """Stands and legs in houses that nobody could go through step by step."""
 
-from ropewarren.places import distance_of
+from ropewarren.places import distance_of, place_on
 from ropewarren.ropes import is_stand
+from ropewarren.verdicts import verdict
 from samples import knots_for
 
 
@@ -36,3 +37,17 @@ def room_beyond(dice, house, stand, end):
         == distance_of(house, *stand) + distance_of(house, stand[end], (room,))
     ]
     return dice.choice(beyond) if beyond else None
+
+
+def any_wish(dice, house, rope, start):
+    """A stand of the same rope in a far house, some of those that can be come to often; the start if none is found."""
+    rows = verdict(house, rope, start, start)[-1]
+    if dice.random() < 0.4:
+        return dice.choice(rows)[:2]
+    for _ in range(20):
+        tail, room = any_place(dice, house), (dice.randrange(house[0]),)
+        if distance_of(house, tail, room) >= rope[0]:
+            wish = (tail, place_on(house, tail, room, rope[0]))[::dice.choice((1, -1))]
+            if is_stand(house, rope, wish):
+                return wish
+    return start

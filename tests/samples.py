@@ -104,6 +104,13 @@ def spoilt_house(dice):
     return bent(dice, random_house(dice))
 
 
+def is_plain(thing):
+    """Whether what is told is made of tuples, whole numbers and texts alone."""
+    if type(thing) is tuple:
+        return all(is_plain(part) for part in thing)
+    return type(thing) in (int, str)
+
+
 def dice_of(seed):
     return random.Random(seed)
 

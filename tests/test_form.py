@@ -18,6 +18,10 @@ DEFINED = {
     "verdicts": ("verdict", "verdict_holds", "distance"),
     "comes": ("come", "heads", "tails", "is_stuck", "under_always"),
     "depths": ("depth", "long_arms", "longest"),
+    "lots": ("lot_of", "lots", "stands_in"),
+    "parts": ("part", "part_stand", "part_way"),
+    "least": ("least_width", "longest_part", "fewest_untied", "fewest_taken"),
+    "sights": ("seen", "seen_way"),
     "errors": (
         "WarrenError", "NoHouse", "NoRope", "NoStand", "NoBack", "NoText", "Flapped", "NoEnd", "NoPlace", "NoPipe",
         "NoAt", "NoRoom", "NoBy", "NoBit", "NoSize", "NoWay", "NoKnot", "NoName", "Twice", "Full", "Back", "Stuck",

@@ -4,7 +4,7 @@ import copy
 import unittest
 
 from brute import HEAD, TAIL, Brute
-from far import any_place, any_stand
+from far import any_place, any_stand, any_wish
 from near import small_stands
 from ropewarren.errors import Barred
 from ropewarren.places import distance_of, place_on
@@ -12,15 +12,8 @@ from ropewarren.pulls import steps_of, way_holds
 from ropewarren.ropes import is_stand
 from ropewarren.tables import table_holds
 from ropewarren.verdicts import distance, verdict, verdict_holds
-from samples import LONG, OTHERS, bent, dice_of, far_house, path, pipe, put, star
+from samples import LONG, OTHERS, bent, dice_of, far_house, is_plain, path, pipe, put, star
 from scaled import scaled_house, scaled_rope, scaled_stand
-
-
-def is_plain(thing):
-    """Whether what is told is made of tuples, whole numbers and texts alone."""
-    if type(thing) is tuple:
-        return all(is_plain(part) for part in thing)
-    return type(thing) in (int, str)
 
 
 def table_in(told):
@@ -34,20 +27,6 @@ def distance_or_table(house, rope, start, wish):
     except Barred as refusal:
         assert type(refusal) is Barred
         return None, refusal.table
-
-
-def any_wish(dice, house, rope, start):
-    """A stand of the same rope in a far house, some of those that can be come to often; the start if none is found."""
-    rows = verdict(house, rope, start, start)[-1]
-    if dice.random() < 0.4:
-        return dice.choice(rows)[:2]
-    for _ in range(20):
-        tail, room = any_place(dice, house), (dice.randrange(house[0]),)
-        if distance_of(house, tail, room) >= rope[0]:
-            wish = (tail, place_on(house, tail, room, rope[0]))[::dice.choice((1, -1))]
-            if is_stand(house, rope, wish):
-                return wish
-    return start
 
 
 class ByHand(unittest.TestCase):

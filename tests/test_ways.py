@@ -5,34 +5,11 @@ import unittest
 
 from brute import HEAD, TAIL, is_legs
 from far import any_stand, room_beyond
-from near import small_stands
+from near import any_way, small_stands
 from ropewarren.errors import WarrenError
 from ropewarren.places import distance_of, place_on
 from ropewarren.pulls import pulled, steps_of, way_holds
 from samples import LONG, OTHERS, bent, dice_of, far_house, pipe, star
-
-
-def legs_from(brute, rope, stand):
-    """All (leg, stand behind it) that can be done from a stand."""
-    rows = []
-    for end in (TAIL, HEAD):
-        for place in brute.places:
-            told = brute.leg(rope, stand, end, place)
-            if told[0] == "stand":
-                rows.append(((end, place), told[1]))
-    return rows
-
-
-def any_way(dice, brute, rope, stand, most=5):
-    """Any legs from a stand, one behind another, and the stand they lead to."""
-    legs = []
-    for _ in range(dice.randint(0, most)):
-        rows = legs_from(brute, rope, stand)
-        if not rows:
-            break
-        leg, stand = dice.choice(rows)
-        legs.append(leg)
-    return tuple(legs), stand
 
 
 class ByHand(unittest.TestCase):
