@@ -1,5 +1,6 @@
 """What is least: how wide, how short, how few knots and flaps it takes that there is a way."""
 
+from ropewarren.knots import untied
 from ropewarren.parts import part, part_stand
 from ropewarren.plans import Plan
 from ropewarren.searches import leads_to
@@ -55,12 +56,6 @@ def fewest_untied(house, rope, start, wish):
         if leads_to(plan, untied(rope, gone), start, wish):
             return gone
     return None
-
-
-def untied(rope, gone):
-    """Tell a rope without the knots of these numbers."""
-    length, knots = rope
-    return (length, tuple([knot for number, knot in enumerate(knots) if number not in gone]))
 
 
 def fewest_taken(house, rope, start, wish):
