@@ -29,7 +29,7 @@ def lots(house, length):
     marks = marks_of(plan, length)
     found = {}
     rows = []
-    for start in stands_at_rooms(plan, length):
+    for start in stands_from_rooms(plan, length):
         if start not in found:
             stands, runs = all_runs(plan, (length, ()), start)
             for stand in stands:
@@ -43,23 +43,21 @@ def stands_in(house, length):
     return sum([count for name, count in lots(house, length)])
 
 
-def stands_at_rooms(plan, length):
-    """Tell all stands with an end at a room: each lot has one, as each rope can be drawn on till an end is at one."""
+def stands_from_rooms(plan, length):
+    """Tell all stands with the tail at a room: each lot has one, as each rope's tail can be drawn on to a room."""
     stands = []
     for room in range(len(plan.doors)):
-        for place in places_around(plan, room, length):
-            stands.append(((room,), place))
-            stands.append((place, (room,)))
+        stands.extend([((room,), head) for head in places_around(plan, room, length)])
     return stands
 
 
 def places_around(plan, room, steps):
-    """Tell all places so many steps, one or more, from a room; rooms perhaps twice."""
+    """Tell all places so many steps, one or more, from a room."""
     places = []
     for near in plan.gaps[room]:
         left = steps - plan.gaps[room][near]
         for pipe, at, beyond, far in plan.doors[near]:
-            if plan.gaps[room][beyond] > plan.gaps[room][near] and 0 <= left <= abs(far - at):
+            if plan.gaps[room][beyond] > plan.gaps[room][near] and 0 < left <= abs(far - at):
                 places.append(place_at(plan, pipe, at_along((pipe, at, far), left)))
     return places
 

@@ -163,7 +163,8 @@ class Warren:
         self.refuse_too_many()
         house, rope, stand, steps = self.now
         built = halved(house, pipe, at)
-        self.kept = {name: (led_along(house, pipe, at, wish), word) for name, (wish, word) in self.kept.items()}
+        led = {name: (led_along(house, pipe, at, wish), word) for name, (wish, word) in self.kept.items()}
+        self.kept = led
         return self.do(HALVE, (pipe, at), built, rope, led_along(house, pipe, at, stand), 0)
 
     def back(self):
@@ -172,13 +173,15 @@ class Warren:
             raise NoBack()
         word, things, before = self.past.pop()
         if word == HALVE:
-            pipe, at = things
-            built = self.now[0]
-            self.kept = {
-                name: (led_back(before[0], built, pipe, at, wish), past) for name, (wish, past) in self.kept.items()
-            }
+            self.lead_wishes_back(before[0], things[0], things[1])
         self.now = before
         return len(self.past)
+
+    def lead_wishes_back(self, house, pipe, at):
+        """Lead all wishes back into the house that was halved."""
+        built = self.now[0]
+        led = {name: (led_back(house, built, pipe, at, wish), word) for name, (wish, word) in self.kept.items()}
+        self.kept = led
 
     def keep(self, name, wish):
         """Keep a wish under a name."""

@@ -121,6 +121,11 @@ class ByHand(unittest.TestCase):
         self.check(house, (9, ((0, 3),)), start, ((0, 350), (0, 359)), (3, 0, (0,), None))
         self.check(house, (9, ((9, 5),)), start, ((0, 350), (0, 359)), (5, 8, (0,), None))
 
+    def test_wider_places_stay_as_wide(self):
+        # The tail's knot comes through at 50, the head's doesn't at 120.
+        house = (2, (pipe(0, 1, LONG, ((50, 5), (120, 1))),))
+        self.check(house, (100, ((0, 2), (100, 5))), ((0,), (0, 100)), ((0, 60), (0, 160)), (2, 0, (0,), None))
+
     def test_none_at_any_width(self):
         house = path(2, LONG)
         # A rope in one pipe isn't turned about, nor any part of it.

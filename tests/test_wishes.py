@@ -175,6 +175,28 @@ class ByHand(unittest.TestCase):
         warren.halve(2, 1)
         self.assertEqual(tried(warren.told, "a"), ("NoStand",))
 
+    def test_places_beyond_a_pipe_are_not_led(self):
+        warren = warren_of()
+        warren.lengthen(2, 5)
+        warren.keep("a", ((2, 11), (2, 7)))
+        warren.back()
+        warren.halve(2, 3)
+        self.assertEqual(tried(warren.told, "a"), ("NoStand",))
+        # So they are places again where the pipe is long enough again.
+        warren.lengthen(2, 9)
+        self.assertEqual(warren.told("a")[0], "way")
+
+    def test_places_beyond_a_pipe_are_not_led_back(self):
+        warren = warren_of()
+        warren.halve(2, 3)
+        warren.lengthen(3, 10)
+        warren.keep("a", ((3, 12), (3, 8)))
+        warren.back()
+        warren.back()
+        self.assertEqual(tried(warren.told, "a"), ("NoStand",))
+        warren.grow(0, 20)
+        self.assertEqual(warren.told("a")[0], "way")
+
     def test_nothing_else_changes_a_wish(self):
         warren = Warren(path(3, 9), (4, ()), ((0, 5), (0, 1)))
         warren.keep("a", ((1, 5), (1, 1)))
